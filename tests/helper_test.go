@@ -3,6 +3,7 @@ package tests
 import (
 	"math"
 	"slices"
+	"strings"
 
 	"loop.example/countedchances/impl"
 )
@@ -47,6 +48,25 @@ func pairsOf(f func(a, b []int)) {
 	}
 }
 
+// twoSamples calls f with all two samples of at least one number each that are data together.
+func twoSamples(f func(a, b []int)) {
+	lists := samples()
+	for _, list := range samples() {
+		for _, size := range []int{1, 5, 9} {
+			if size < len(list) {
+				f(slices.Clone(list[:size]), slices.Clone(list[size:]))
+			}
+		}
+	}
+	for _, a := range lists {
+		for _, b := range lists {
+			if len(a) > 0 && len(b) > 0 && len(a)+len(b) <= impl.MaxData {
+				f(slices.Clone(a), slices.Clone(b))
+			}
+		}
+	}
+}
+
 // badData returns lists that are not data: one number too many, or one out of its limits, at each place.
 func badData() [][]int {
 	lists := [][]int{
@@ -78,6 +98,34 @@ func badPairs() [][2][]int {
 		pairs = append(pairs, [2][]int{bad, good}, [2][]int{good, bad}, [2][]int{bad, bad})
 	}
 	return pairs
+}
+
+// badSamples returns two lists that are not both samples of at least one number that are data together.
+func badSamples() [][2][]int {
+	pairs := [][2][]int{
+		{nil, nil},
+		{{}, {}},
+		{nil, {1}},
+		{{1}, nil},
+		{{}, {0, 0}},
+		{{0, 0}, {}},
+		{make([]int, 1), make([]int, impl.MaxData)},
+		{make([]int, impl.MaxData), make([]int, 1)},
+		{make([]int, impl.MaxData/2), make([]int, impl.MaxData/2+1)},
+		{make([]int, impl.MaxData/2+1), make([]int, impl.MaxData/2)},
+		{make([]int, impl.MaxData), make([]int, impl.MaxData)},
+		{make([]int, impl.MaxData), nil},
+		{nil, make([]int, impl.MaxData)},
+	}
+	for _, bad := range badData() {
+		pairs = append(pairs, [2][]int{bad, {1}}, [2][]int{{1}, bad}, [2][]int{bad, bad})
+	}
+	return pairs
+}
+
+// badSides returns numbers of equal letters of which the orders are not counted.
+func badSides() []int {
+	return []int{-1, -impl.MaxSide, impl.MaxSide + 1, 1000, math.MinInt, math.MaxInt}
 }
 
 // badOrders returns numbers of numbers of which the orders are not counted.
@@ -135,6 +183,66 @@ func fallsOf(order []int) int {
 		}
 	}
 	return falls
+}
+
+// choices counts the ways to choose size of n things.
+func choices(n, size int) int {
+	ways := 1
+	for i := range size {
+		ways = ways * (n - i) / (i + 1)
+	}
+	return ways
+}
+
+// chosenSums returns the sum of each choice of size numbers at different places.
+func chosenSums(list []int, size int) []int {
+	if size == 0 {
+		return []int{0}
+	}
+	if len(list) < size {
+		return nil
+	}
+	sums := chosenSums(list[1:], size)
+	for _, sum := range chosenSums(list[1:], size-1) {
+		sums = append(sums, list[0]+sum)
+	}
+	return sums
+}
+
+// eachWord calls f with all orders of m letters a and n letters b.
+func eachWord(m, n int, f func(word string)) {
+	if m == 0 && n == 0 {
+		f("")
+	}
+	if m > 0 {
+		eachWord(m-1, n, func(word string) { f(word + "a") })
+	}
+	if n > 0 {
+		eachWord(m, n-1, func(word string) { f(word + "b") })
+	}
+}
+
+// winsOfWord counts the pairs of an a behind a b.
+func winsOfWord(word string) int {
+	wins := 0
+	for i := range word {
+		for k := range i {
+			if word[i] == 'a' && word[k] == 'b' {
+				wins++
+			}
+		}
+	}
+	return wins
+}
+
+// runsOfWord counts the rows of the same letters, each as long as it may be.
+func runsOfWord(word string) int {
+	runs := 0
+	for word != "" {
+		word = strings.TrimLeft(word, word[:1])
+		runs++
+	}
+	return runs
 }
 
 // overwrite fills a list with other numbers, its spare memory too.
