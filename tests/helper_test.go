@@ -252,3 +252,199 @@ func overwrite(list []int) {
 		list[i] = -9999
 	}
 }
+
+// badCells returns numbers that are out of the limits of a table of four.
+func badCells() []int {
+	return []int{-1, -impl.MaxCell, impl.MaxCell + 1, 1000, math.MinInt, math.MaxInt}
+}
+
+// badFours returns tables with one number out of the limits, at each place, or with all of them.
+func badFours() []impl.Four {
+	var tables []impl.Four
+	for _, x := range badCells() {
+		for _, y := range []int{0, 1, impl.MaxCell} {
+			tables = append(tables,
+				impl.Four{A: x, B: y, C: y, D: y},
+				impl.Four{A: y, B: x, C: y, D: y},
+				impl.Four{A: y, B: y, C: x, D: y},
+				impl.Four{A: y, B: y, C: y, D: x})
+		}
+		tables = append(tables, impl.Four{A: x, B: x, C: x, D: x}, impl.Four{A: x, B: -x, C: -x, D: x})
+	}
+	return tables
+}
+
+// eachFour calls f with all tables of numbers up to most.
+func eachFour(most int, f func(impl.Four)) {
+	for a := range most + 1 {
+		for b := range most + 1 {
+			for c := range most + 1 {
+				for d := range most + 1 {
+					f(impl.Four{A: a, B: b, C: c, D: d})
+				}
+			}
+		}
+	}
+}
+
+// foursWithSums returns the tables of numbers of at least 0 with the sums of f, found by trying all first numbers.
+func foursWithSums(f impl.Four) []impl.Four {
+	var tables []impl.Four
+	for a := range 2*impl.MaxCell + 1 {
+		b, c := f.A+f.B-a, f.A+f.C-a
+		d := f.C + f.D - c
+		if b >= 0 && c >= 0 && d >= 0 {
+			tables = append(tables, impl.Four{A: a, B: b, C: c, D: d})
+		}
+	}
+	return tables
+}
+
+// waysOfFour counts the choices of the first column, also where a number is above MaxCell.
+func waysOfFour(f impl.Four) int {
+	return choices(f.A+f.B, f.A) * choices(f.C+f.D, f.C)
+}
+
+// ordersOf counts the orders of n things.
+func ordersOf(n int) int {
+	orders := 1
+	for i := range n {
+		orders *= i + 1
+	}
+	return orders
+}
+
+// partsOf returns all lists of so many numbers of at least 0 with the sum.
+func partsOf(sum, size int) [][]int {
+	if size == 0 {
+		if sum == 0 {
+			return [][]int{nil}
+		}
+		return nil
+	}
+	var lists [][]int
+	for x := range sum + 1 {
+		for _, behind := range partsOf(sum-x, size-1) {
+			lists = append(lists, append([]int{x}, behind...))
+		}
+	}
+	return lists
+}
+
+// validLines returns all valid sums of rows, or of columns.
+func validLines() [][]int {
+	var lists [][]int
+	for size := 1; size <= impl.MaxLines; size++ {
+		for sum := range size*impl.MaxSum + 1 {
+			for _, list := range partsOf(sum, size) {
+				if slices.Max(list) <= impl.MaxSum {
+					lists = append(lists, list)
+				}
+			}
+		}
+	}
+	return lists
+}
+
+// eachSums calls f with all valid sums of rows and of columns that are the same together.
+func eachSums(f func(rows, cols []int)) {
+	for _, rows := range validLines() {
+		for _, cols := range validLines() {
+			if sumOf(rows) == sumOf(cols) {
+				f(rows, cols)
+			}
+		}
+	}
+}
+
+// badSums returns sums of rows and of columns of which no tables are counted.
+func badSums() [][2][]int {
+	pairs := [][2][]int{
+		{nil, nil},
+		{{}, {}},
+		{{1}, {2}},
+		{{2}, {1}},
+		{{0}, {1}},
+		{{1}, {0}},
+		{{6, 6}, {6, 5}},
+		{{6, 6, 6}, {6, 6}},
+		{{-1, 1}, {0}},
+		{{0}, {1, -1}},
+		{{7}, {7}},
+		{{7}, {6, 1}},
+		{{3, 4}, {7}},
+		{{7, 0, 0}, {0, 0, 7}},
+		{{math.MaxInt, math.MinInt, 1}, {0}},
+		{{math.MaxInt, math.MaxInt, 2}, {0}},
+		{{0}, {math.MinInt, math.MinInt}},
+	}
+	for _, bad := range [][]int{
+		nil,
+		{},
+		make([]int, impl.MaxLines+1),
+		make([]int, 100),
+		{-1},
+		{impl.MaxSum + 1},
+		{math.MinInt},
+		{math.MaxInt},
+		{0, 0, -1},
+		{0, -1, 1},
+		{impl.MaxSum + 1, 0, 0},
+		{0, 0, impl.MaxSum + 1},
+	} {
+		for _, other := range [][]int{{0}, {0, 0}, {0, 0, 0}, {6}, {6, 1}, {1, 1, 1}, bad} {
+			pairs = append(pairs, [2][]int{bad, other}, [2][]int{other, bad})
+		}
+	}
+	return pairs
+}
+
+// giveOut gives each thing of each row to each column in turn, and counts what has the sums of columns.
+func giveOut(rows, cols []int) (int, int) {
+	var owners []int
+	for row, things := range rows {
+		owners = append(owners, slices.Repeat([]int{row}, things)...)
+	}
+	seen := map[[impl.MaxLines][impl.MaxLines]int]bool{}
+	ways := 0
+	var give func(thing int, table [impl.MaxLines][impl.MaxLines]int)
+	give = func(thing int, table [impl.MaxLines][impl.MaxLines]int) {
+		if thing < len(owners) {
+			for col := range cols {
+				next := table
+				next[owners[thing]][col]++
+				give(thing+1, next)
+			}
+			return
+		}
+		for col, sum := range cols {
+			if table[0][col]+table[1][col]+table[2][col] != sum {
+				return
+			}
+		}
+		seen[table] = true
+		ways++
+	}
+	give(0, [impl.MaxLines][impl.MaxLines]int{})
+	return len(seen), ways
+}
+
+// tallyTables counts for the sums of each choice of so many columns the tables with the sums of rows, and their ways.
+func tallyTables(rows []int, size int) map[[impl.MaxLines]int][2]int {
+	if len(rows) == 0 {
+		return map[[impl.MaxLines]int][2]int{{}: {1, 1}}
+	}
+	tally := map[[impl.MaxLines]int][2]int{}
+	for sums, counts := range tallyTables(rows[1:], size) {
+		for _, row := range partsOf(rows[0], size) {
+			next, ways := sums, ordersOf(rows[0])
+			for col, things := range row {
+				next[col] += things
+				ways /= ordersOf(things)
+			}
+			so := tally[next]
+			tally[next] = [2]int{so[0] + counts[0], so[1] + ways*counts[1]}
+		}
+	}
+	return tally
+}
