@@ -2,6 +2,7 @@ package tests
 
 import (
 	"math"
+	"math/bits"
 	"slices"
 	"strings"
 
@@ -447,4 +448,110 @@ func tallyTables(rows []int, size int) map[[impl.MaxLines]int][2]int {
 		}
 	}
 	return tally
+}
+
+// eachTries calls f with all valid tries: n of them, each of which hits in u of v ways.
+func eachTries(f func(n, u, v int)) {
+	for n := range impl.MaxTries + 1 {
+		for v := 1; v <= impl.MaxBase; v++ {
+			for u := range v + 1 {
+				f(n, u, v)
+			}
+		}
+	}
+}
+
+// eachBase calls f with all n of at least 1 and v of tries that are bounded.
+func eachBase(f func(n, v int)) {
+	for n := 1; n <= impl.MaxTries; n++ {
+		for v := 1; v <= impl.MaxBase; v++ {
+			f(n, v)
+		}
+	}
+}
+
+// eachLevel calls f with levels from 0 up to all, of the least, the greatest and some other numbers.
+func eachLevel(f func(a, b int)) {
+	for _, b := range []int{1, 2, 3, 8, 27, impl.MaxLevel} {
+		for a := range b + 1 {
+			f(a, b)
+		}
+	}
+}
+
+// hitsOneByOne takes all ways of n tries one by one, and counts how many of them have so many hits.
+func hitsOneByOne(n, u, v int) []int {
+	counts := make([]int, n+1)
+	var try func(left, hits int)
+	try = func(left, hits int) {
+		if left == 0 {
+			counts[hits]++
+			return
+		}
+		for way := range v {
+			if way < u {
+				try(left-1, hits+1)
+			} else {
+				try(left-1, hits)
+			}
+		}
+	}
+	try(n, 0)
+	return counts
+}
+
+// hitCounts counts how many ways have so many hits by adding try after try.
+func hitCounts(n, u, v int) []int {
+	counts := []int{1}
+	for range n {
+		next := make([]int, len(counts)+1)
+		for hits, ways := range counts {
+			next[hits] += (v - u) * ways
+			next[hits+1] += u * ways
+		}
+		counts = next
+	}
+	return counts
+}
+
+// setSizes takes all sets of n things one by one, and counts how many of them have so many things.
+func setSizes(n int) []int {
+	counts := make([]int, n+1)
+	for set := range uint(1) << n {
+		counts[bits.OnesCount(set)]++
+	}
+	return counts
+}
+
+// badTries returns numbers n, u and v that are not those of tries.
+func badTries() [][3]int {
+	tries := [][3]int{{-1, 2, 1}, {11, -1, 13}, {-1, -1, -1}}
+	for _, n := range []int{-1, -impl.MaxTries, impl.MaxTries + 1, 1000, math.MinInt, math.MaxInt} {
+		tries = append(tries, [3]int{n, 0, 1}, [3]int{n, 1, 2}, [3]int{n, impl.MaxBase, impl.MaxBase})
+	}
+	for n := range impl.MaxTries + 1 {
+		for _, v := range []int{0, -1, -impl.MaxBase, impl.MaxBase + 1, 1000, math.MinInt, math.MaxInt} {
+			tries = append(tries, [3]int{n, 0, v}, [3]int{n, 1, v}, [3]int{n, v, v})
+		}
+		for v := 1; v <= impl.MaxBase; v++ {
+			for _, u := range []int{-1, -v, v + 1, impl.MaxBase + 1, math.MinInt, math.MaxInt} {
+				tries = append(tries, [3]int{n, u, v})
+			}
+		}
+	}
+	return tries
+}
+
+// badLevels returns numbers a and b that are not those of a level.
+func badLevels() [][2]int {
+	levels := [][2]int{{0, 0}, {1, 0}, {0, -1}, {-1, -1}, {-2, -1}}
+	for _, b := range []int{impl.MaxLevel + 1, -impl.MaxLevel, 1000, math.MinInt, math.MaxInt} {
+		levels = append(levels, [2]int{0, b}, [2]int{1, b}, [2]int{b, b})
+	}
+	for _, b := range []int{1, 2, 50, impl.MaxLevel} {
+		for _, a := range []int{-1, -b, b + 1, impl.MaxLevel + 1, math.MinInt, math.MaxInt} {
+			levels = append(levels, [2]int{a, b})
+		}
+	}
+	return levels
 }
