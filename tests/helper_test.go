@@ -555,3 +555,168 @@ func badLevels() [][2]int {
 	}
 	return levels
 }
+
+// listsOf returns all lists of so many of the values.
+func listsOf(size int, values ...int) [][]int {
+	if size == 0 {
+		return [][]int{nil}
+	}
+	var lists [][]int
+	for _, list := range listsOf(size-1, values...) {
+		for _, x := range values {
+			lists = append(lists, append(slices.Clone(list), x))
+		}
+	}
+	return lists
+}
+
+// oddsLists returns valid odds: all short lists of some values, long ones of a few, and all orders of different ones.
+func oddsLists() [][]int {
+	var lists [][]int
+	for size := 1; size <= 3; size++ {
+		lists = append(lists, listsOf(size, 0, 1, 7, 30, 167, 334, 500, 501, 999, impl.Full)...)
+	}
+	for size := 4; size <= impl.MaxTests; size++ {
+		lists = append(lists, listsOf(size, 0, 30, impl.Full)...)
+		lists = append(lists, slices.Repeat([]int{166}, size), slices.Repeat([]int{167}, size), slices.Repeat([]int{999}, size))
+	}
+	for _, values := range [][]int{
+		{1, 2, 3, 4, 5, 6},
+		{5, 11, 20, 70, 81, 300},
+		{10, 14, 30, 31, 32, 33},
+		{4, 4, 9, 9, 9, 230},
+		{100, 180, 200, 280, 290, 700},
+	} {
+		eachOrder(impl.MaxTests, func(order []int) {
+			list := make([]int, len(order))
+			for i, place := range order {
+				list[i] = values[place-1]
+			}
+			lists = append(lists, list)
+		})
+	}
+	return lists
+}
+
+// levelsFor returns, ascending, the least and the greatest levels and those around each of the numbers.
+func levelsFor(lists ...[]int) []int {
+	levels := []int{0, 1, impl.Full - 1, impl.Full}
+	for _, list := range lists {
+		for _, x := range list {
+			levels = append(levels, max(x-1, 0), x, min(x+1, impl.Full))
+		}
+	}
+	slices.Sort(levels)
+	return slices.Compact(levels)
+}
+
+// isAhead reports whether the number at the index k stands ahead of that at i by size, and then by index.
+func isAhead(list []int, k, i int) bool {
+	return list[k] < list[i] || list[k] == list[i] && k < i
+}
+
+// aheadOf counts the numbers that stand ahead of that at an index.
+func aheadOf(list []int, i int) int {
+	count := 0
+	for k := range list {
+		if isAhead(list, k, i) {
+			count++
+		}
+	}
+	return count
+}
+
+// foundSet reports whether odds are found together at the level, by the kind least or each: all at most one of them count for it.
+func foundSet(set []int, level int, kind string) bool {
+	for _, x := range set {
+		count := 1
+		if kind == "each" {
+			count = 0
+			for _, y := range set {
+				if y <= x {
+					count++
+				}
+			}
+		}
+		if x*len(set) <= count*level {
+			return true
+		}
+	}
+	return false
+}
+
+// closedOf tries for each of the odds all sets that have it.
+func closedOf(list []int, level int, kind string) []int {
+	var closed []int
+	for i := range list {
+		all := true
+		var try func(k int, set []int)
+		try = func(k int, set []int) {
+			if k == len(list) {
+				all = all && foundSet(set, level, kind)
+				return
+			}
+			if k != i {
+				try(k+1, set)
+			}
+			try(k+1, append(slices.Clip(set), list[k]))
+		}
+		try(0, nil)
+		if all {
+			closed = append(closed, i)
+		}
+	}
+	return closed
+}
+
+// within reports whether all numbers are among the others.
+func within(list, others []int) bool {
+	for _, x := range list {
+		if !slices.Contains(others, x) {
+			return false
+		}
+	}
+	return true
+}
+
+// noneLess reports whether a has as many numbers as b, none less than that of b at its index.
+func noneLess(a, b []int) bool {
+	for i := range min(len(a), len(b)) {
+		if a[i] < b[i] {
+			return false
+		}
+	}
+	return len(a) == len(b)
+}
+
+// outOfOdds returns numbers that are neither odds nor levels of them.
+func outOfOdds() []int {
+	return []int{-1, -impl.Full, impl.Full + 1, 2 * impl.Full, math.MinInt, math.MaxInt}
+}
+
+// badOdds returns lists that are not odds: no numbers, too many of them, or one out of its limits, at each place.
+func badOdds() [][]int {
+	lists := [][]int{
+		nil,
+		{},
+		make([]int, impl.MaxTests+1),
+		slices.Repeat([]int{impl.Full}, impl.MaxTests+1),
+		make([]int, 100),
+	}
+	for _, x := range outOfOdds() {
+		for size := 1; size <= impl.MaxTests; size++ {
+			for i := range size {
+				list := slices.Repeat([]int{10}, size)
+				list[i] = x
+				lists = append(lists, list)
+			}
+			lists = append(lists, slices.Repeat([]int{x}, size))
+		}
+	}
+	return lists
+}
+
+// badKinds returns words, and none, by which no sets of odds are found.
+func badKinds() []string {
+	return []string{"", " ", "Least", "Each", "LEAST", "EACH", "leas", "eac", "least ", " each", "leasteach", "least,each", "all", "0", "least\x00"}
+}
