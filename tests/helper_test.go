@@ -720,3 +720,115 @@ func badOdds() [][]int {
 func badKinds() []string {
 	return []string{"", " ", "Least", "Each", "LEAST", "EACH", "leas", "eac", "least ", " each", "leasteach", "least,each", "all", "0", "least\x00"}
 }
+
+// drawLists returns valid data to draw from: all lists of up to MaxDrawn of some values.
+func drawLists() [][]int {
+	var lists [][]int
+	for size := 1; size <= impl.MaxDrawn; size++ {
+		lists = append(lists, listsOf(size, -impl.MaxValue, -3, 0, 1, 7, impl.MaxValue)...)
+	}
+	return lists
+}
+
+// badDraws returns lists that are not drawn from: no numbers, too many of them, or one out of its limits.
+func badDraws() [][]int {
+	lists := [][]int{nil, {}, {1, 2, 3, 4, 5}}
+	for size := impl.MaxDrawn + 1; size <= impl.MaxData; size++ {
+		lists = append(lists, make([]int, size), slices.Repeat([]int{impl.MaxValue}, size))
+	}
+	return append(lists, badData()...)
+}
+
+// drawCounts counts the ways to each sum by adding draw after draw.
+func drawCounts(list []int) map[int]int {
+	counts := map[int]int{0: 1}
+	for range list {
+		next := map[int]int{}
+		for sum, ways := range counts {
+			for _, x := range list {
+				next[sum+x] += ways
+			}
+		}
+		counts = next
+	}
+	return counts
+}
+
+// middleTwice returns twice the number in the middle by size of an odd number of them, or the sum of the two.
+func middleTwice(list []int) int {
+	sorted := slices.Sorted(slices.Values(list))
+	half := len(sorted) / 2
+	if len(sorted)%2 == 1 {
+		return 2 * sorted[half]
+	}
+	return sorted[half-1] + sorted[half]
+}
+
+// gapOfWord returns how far the letters a, times all b, and the letters b, times all a, get apart.
+func gapOfWord(word string) int {
+	m, n := strings.Count(word, "a"), strings.Count(word, "b")
+	gap := 0
+	for end := range len(word) + 1 {
+		gap = max(gap, strings.Count(word[:end], "a")*n-strings.Count(word[:end], "b")*m)
+		gap = max(gap, strings.Count(word[:end], "b")*m-strings.Count(word[:end], "a")*n)
+	}
+	return gap
+}
+
+// gapsOfWords returns the gaps of all orders of m letters a and n letters b.
+func gapsOfWords(m, n int) []int {
+	var gaps []int
+	eachWord(m, n, func(word string) { gaps = append(gaps, gapOfWord(word)) })
+	return gaps
+}
+
+// gapAtAll takes the gap of two samples at each number that there may be, and at those between samples, too.
+func gapAtAll(a, b []int) int {
+	gap := 0
+	for x := -impl.MaxValue; x <= impl.MaxValue; x++ {
+		wide := 0
+		for _, y := range a {
+			if y <= x {
+				wide += len(b)
+			}
+		}
+		for _, y := range b {
+			if y <= x {
+				wide -= len(a)
+			}
+		}
+		gap = max(gap, wide, -wide)
+	}
+	return gap
+}
+
+// samplesOf returns the samples of an order: the ascending values at the letters a, and those at the letters b.
+func samplesOf(word string, values []int) ([]int, []int) {
+	var a, b []int
+	for i := range word {
+		if word[i] == 'a' {
+			a = append(a, values[i])
+		} else {
+			b = append(b, values[i])
+		}
+	}
+	return a, b
+}
+
+// eachSteps calls f with all numbers of steps in both directions.
+func eachSteps(f func(m, n int)) {
+	for m := 1; m <= impl.MaxSide; m++ {
+		for n := 1; n <= impl.MaxSide; n++ {
+			f(m, n)
+		}
+	}
+}
+
+// eachSidesWord calls f with all orders of two samples that are data together, of at most MaxSide numbers each.
+func eachSidesWord(f func(word string)) {
+	eachSteps(func(m, n int) {
+		if m+n <= impl.MaxData {
+			eachWord(m, n, f)
+		}
+	})
+}
