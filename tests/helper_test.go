@@ -248,9 +248,14 @@ func runsOfWord(word string) int {
 
 // overwrite fills a list with other numbers, its spare memory too.
 func overwrite(list []int) {
+	overwriteBy(list, -9999)
+}
+
+// overwriteBy fills a list with something else, its spare memory too.
+func overwriteBy[T any](list []T, other T) {
 	list = list[:cap(list)]
 	for i := range list {
-		list[i] = -9999
+		list[i] = other
 	}
 }
 
