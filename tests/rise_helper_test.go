@@ -186,8 +186,6 @@ func ratsOf(list []int) []*big.Rat {
 // badLoads returns lists that are not numbers with weights: too few or too many of either, or one out of its limits, at each place.
 func badLoads() [][2][]int {
 	pairs := [][2][]int{
-		{nil, nil},
-		{{}, {}},
 		{nil, {1}},
 		{{1}, nil},
 		{{1, 2}, {1}},
@@ -196,16 +194,12 @@ func badLoads() [][2][]int {
 		{ones(impl.MaxRise - 1), ones(impl.MaxRise)},
 		{ones(impl.MaxRise), ones(impl.MaxRise + 1)},
 		{ones(impl.MaxRise + 1), ones(impl.MaxRise)},
-		{ones(impl.MaxRise + 1), ones(impl.MaxRise + 1)},
-		{ones(50), ones(50)},
+	}
+	for _, bad := range badHeights() {
+		pairs = append(pairs, [2][]int{bad, ones(len(bad))})
 	}
 	for size := 1; size <= impl.MaxRise; size++ {
 		for i := range size {
-			for _, x := range []int{-impl.MaxHeight - 1, impl.MaxHeight + 1, -1000, 1000, math.MinInt, math.MaxInt} {
-				bad := ones(size)
-				bad[i] = x
-				pairs = append(pairs, [2][]int{bad, ones(size)})
-			}
 			for _, weight := range []int{0, -1, -impl.MaxWeight, impl.MaxWeight + 1, 1000, math.MinInt, math.MaxInt} {
 				bad := ones(size)
 				bad[i] = weight
